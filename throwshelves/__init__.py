@@ -1,0 +1,1 @@
+"""Throwshelves: shelves in a ring, read as a juggler's throws."""
