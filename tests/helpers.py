@@ -184,7 +184,7 @@ def table_by_throws(pattern):
 class Held:
     """What is mixed into tests."""
 
-    def refused(self, name, fields, call, *args, **named):
+    def refused(self, name, fields, call, /, *args, **named):
         """The call raises exactly this error with exactly these fields."""
         try:
             call(*args, **named)
@@ -196,10 +196,10 @@ class Held:
             return
         self.fail(f"no {name} for {args} {named}")
 
-    def unusable(self, word, call, *args, **named):
+    def unusable(self, word, call, /, *args, **named):
         self.refused("NotUsable", {"word": word, "at": -1}, call, *args, **named)
 
-    def invalid(self, word, at, call, *args, **named):
+    def invalid(self, word, at, call, /, *args, **named):
         self.refused("InvalidPaper", {"word": word, "at": at}, call, *args, **named)
 
     def equal(self, told, wanted, about=None):

@@ -80,9 +80,7 @@ def common(book, other):
 def checks_of(book):
     """The book of all words that have with each word of the book the sum 0."""
     prime, size, rows = book
-    leads = {}
-    for k, row in enumerate(rows):
-        leads[lead_of(row)] = k
+    leads = [lead_of(row) for row in rows]
     words = [check_at(book, leads, place) for place in range(size) if place not in leads]
     return (prime, size, settled_rows(prime, words))
 
@@ -92,6 +90,6 @@ def check_at(book, leads, place):
     prime, size, rows = book
     digits = [0 for _ in range(size)]
     digits[place] = 1
-    for lead, k in leads.items():
-        digits[lead] = -rows[k][place] % prime
+    for lead, row in zip(leads, rows):
+        digits[lead] = -row[place] % prime
     return tuple(digits)

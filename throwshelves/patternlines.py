@@ -7,7 +7,8 @@ from throwshelves.patterns import throws_fault
 
 def pattern_line(pattern):
     """The line of the pattern."""
-    return " ".join(["throws"] + [str(throw) for throw in pattern])
+    numbers = [str(throw) for throw in pattern]
+    return " ".join(["throws", *numbers])
 
 
 def pattern_read(text):

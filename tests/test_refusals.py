@@ -1,0 +1,196 @@
+"""Each function: its parameters by position and by name, and what it refuses, the first parameter first."""
+
+import copy
+import types
+import unittest
+
+from tests.helpers import (LINES, ODD, THROWS, TWINS, Held, integer, number, places_fit, prime_fits, same, size_fits,
+                           stretch_fits, word_fits)
+from throwshelves import (bookpatterns, bookreadings, books, booktexts, columns, patterncounts, patternlines,
+                          patternpapers, patterns, ranktables, stretches, swaps)
+
+TABLE = ((0, 1, 1, 2, 2), (0, 1, 2, 2, 2), (0, 1, 2, 2, 2), (0, 1, 2, 2, 2))
+
+
+def is_row(thing):
+    return word_fits(2, 4, thing)
+
+
+def are_rows(thing):
+    return type(thing) is tuple and all(is_row(word) for word in thing)
+
+
+def is_other(thing):
+    """Whether it is one of the few values here that are books modulo 2 of four places."""
+    return any(same(thing, book) for book in (TWINS, (2, 4, ()), (2, 4, ((1, 0, 0, 0),))))
+
+
+def are_columns(thing):
+    if type(thing) is not tuple or not thing or not all(type(column) is tuple for column in thing):
+        return False
+    if len({len(column) for column in thing}) > 1:
+        return False
+    return all(number(digit) and digit < 2 for column in thing for digit in column)
+
+
+def is_table(thing):
+    if type(thing) is not tuple or not thing or not all(type(ranks) is tuple for ranks in thing):
+        return False
+    return all(len(ranks) == len(thing) + 1 and all(integer(rank) for rank in ranks) for ranks in thing)
+
+
+def is_place(thing):
+    return number(thing) and thing < 4
+
+
+def is_later(thing):
+    return integer(thing) and 0 < thing < 4
+
+
+def is_text(thing):
+    return type(thing) is str
+
+
+PRIME = ("prime", 2, prime_fits, (17, 4, -2, "2", [2]))
+SIZE = ("size", 4, size_fits, (0, -4, "4", (4,)))
+PLACE = ("place", 3, is_place, (4, -1, "3", (3,), [3]))
+PLACES = ("places", (0, 2), lambda thing: places_fit(4, thing), ((2, 0), (0, 0), (0, 4), [0, 2], 0, (0, True)))
+STRETCH = ("stretch", (3, 2), lambda thing: stretch_fits(4, thing), ((4, 0), (0, 5), (0, -1), [3, 2], (3, 2, 0), (3,)))
+OTHER = ("other", (2, 4, ((1, 0, 0, 0),)), is_other,
+         (LINES, (2, 3, ()), (3, 4, ()), [2, 4, ()], (2, 4, ((0, 0, 0, 0),)), (2, 4, ((True, 0, 0, 0),)), (2, 4)))
+WORD = ("word", (1, 1, 1, 0), is_row, ((1, 1, 1), (1, 1, 1, 2), [1, 1, 1, 0], (1, 1, 1, False), (1, 1, 1, 0, 0)))
+BALLS = ("balls", 2, number, (-1, "2", (2,)))
+BOOK = ("book", TWINS)
+PATTERN = ("pattern", THROWS)
+
+# The function, its parameter that is handed in as such, and all others: name, a value that stands, what stands,
+# and values ahead of those in ODD that do not stand.
+SPECS = (
+    (books.span_of, None, (PRIME, SIZE, ("words", ((1, 1, 0, 1),), are_rows,
+                                         ((1, 1, 0, 1), [(1, 1, 0, 1)], ((1, 1, 0),), ((1, 1, 0, 2),), ([1, 1, 0, 1],),
+                                          ((1, 1, 0, 1), (True, 0, 0, 0)))))),
+    (books.rank_of, BOOK, ()),
+    (books.has_word, BOOK, (WORD,)),
+    (books.words_of, BOOK, ()),
+    (books.is_part, BOOK, (OTHER,)),
+    (books.together, BOOK, (OTHER,)),
+    (books.common, BOOK, (OTHER,)),
+    (books.checks_of, BOOK, ()),
+    (columns.column_of, BOOK, (PLACE,)),
+    (columns.columns_of, BOOK, ()),
+    (columns.from_columns, None, (PRIME, ("columns", ((1, 0), (0, 1)), are_columns,
+                                          (((1, 0), (0,)), ((1, 2),), ((True,),), [(1, 0)], ((1, 0), [0, 1]))))),
+    (columns.rank_on, BOOK, (PLACES,)),
+    (columns.stretch_rank, BOOK, (STRETCH,)),
+    (columns.spans, BOOK, (PLACES, PLACE)),
+    (booktexts.book_line, BOOK, ()),
+    (booktexts.word_line, None, (("word", (1, 0, 12), lambda thing: type(thing) is tuple and thing != () and
+                                  all(number(one) for one in thing), ((), [1], (1, -1), (1, True), (1, "1"))),)),
+    (bookreadings.read_book, None, (("text", "book 2 4 1,1,0,1", is_text, (2, ("book 2 4",))),)),
+    (bookreadings.read_word, None, (("text", "word 1 2", is_text, (2, ("word 2",))),)),
+    (patterns.balls_of, PATTERN, ()),
+    (patterns.landings_of, PATTERN, ()),
+    (patterns.lands_at, PATTERN, (PLACE,)),
+    (patterns.thrown_from, PATTERN, (PLACE,)),
+    (patterns.crossing, PATTERN, (PLACE,)),
+    (patterns.states_of, PATTERN, ()),
+    (patterns.rounds_of, PATTERN, ()),
+    (patterns.ball_paths, PATTERN, ()),
+    (swaps.can_swap, PATTERN, (("i", 0, is_place, (4, -1)), ("j", 1, is_later, (0, 4, 5, -1)))),
+    (swaps.swapped, PATTERN, (("i", 0, is_place, (4, -1)), ("j", 1, lambda thing: integer(thing) and thing == 1,
+                                                            (0, 2, 3, 4, 5, -1)))),
+    (swaps.lowering_swaps, PATTERN, ()),
+    (swaps.raising_swaps, PATTERN, ()),
+    (swaps.depth_of, PATTERN, ()),
+    (patterncounts.pattern_count, None, (SIZE, BALLS)),
+    (patterncounts.patterns_of, None, (SIZE, BALLS)),
+    (patterncounts.level_pattern, None, (SIZE, ("balls", 2, lambda thing: number(thing) and thing <= 4, (5, -1)))),
+    (patternlines.pattern_line, PATTERN, ()),
+    (patternlines.pattern_read, None, (("text", "throws 1 2 2 3", is_text, (2, ("throws 1",))),)),
+    (bookpatterns.pattern_of, BOOK, ()),
+    (bookpatterns.throw_at, BOOK, (PLACE,)),
+    (bookpatterns.back_throw, BOOK, (PLACE,)),
+    (bookpatterns.mend_digits, BOOK, (PLACE,)),
+    (bookpatterns.keep_word, BOOK, (PLACE,)),
+    (ranktables.table_of, BOOK, ()),
+    (ranktables.table_by, PATTERN, ()),
+    (ranktables.rank_by, PATTERN, (STRETCH,)),
+    (ranktables.pattern_by, None, (("table", TABLE, is_table, ((), ((0, 1), (0, 1)), ((0, True),), [(0, 1)])),)),
+    (stretches.free_stretches, PATTERN, ()),
+    (stretches.full_stretches, PATTERN, ()),
+    (patternpapers.pattern_paper, BOOK, ()),
+)
+
+GENERATORS = (books.words_of, patterncounts.patterns_of)
+
+
+def as_told(call):
+    """The function, or for a generator one that asks for its first result, when it raises its errors."""
+    if call not in GENERATORS:
+        return call
+
+    def asked(*args, **named):
+        made = call(*args, **named)
+        assert isinstance(made, types.GeneratorType)
+        return next(made)
+    return asked
+
+
+def barred(values, fits):
+    return [value for value in values + ODD if not fits(value)]
+
+
+class Refusals(Held, unittest.TestCase):
+    def test_by_position_and_by_name(self):
+        for call, handed, parameters in SPECS:
+            with self.subTest(call=call.__name__):
+                pairs = ([] if handed is None else [handed]) + [(name, value) for name, value, _, _ in parameters]
+                told = as_told(call)
+                once = told(*[value for _, value in pairs])
+                self.equal(told(**dict(pairs)), once)
+                self.equal(told(**dict(reversed(pairs))), once)
+                if len(pairs) > 1:
+                    self.equal(told(pairs[0][1], **dict(pairs[1:])), once)
+
+    def test_each_parameter(self):
+        for call, handed, parameters in SPECS:
+            given = {} if handed is None else dict([handed])
+            for name, _, fits, values in parameters:
+                for value in barred(values, fits):
+                    with self.subTest(call=call.__name__, name=name, value=repr(value)[:60]):
+                        named = given | {other: good for other, good, _, _ in parameters} | {name: value}
+                        kept = copy.deepcopy(value)
+                        self.unusable(name, as_told(call), **named)
+                        self.assertTrue(same(kept, value))
+
+    def test_the_first_of_several(self):
+        for call, handed, parameters in SPECS:
+            given = [] if handed is None else [handed[1]]
+            for first in range(len(parameters)):
+                for value in barred(parameters[first][3], parameters[first][2]):
+                    with self.subTest(call=call.__name__, first=parameters[first][0], value=repr(value)[:60]):
+                        args = [good for _, good, _, _ in parameters[:first]] + [value]
+                        for _, _, fits, values in parameters[first + 1:]:
+                            args.append(barred(values, fits)[0])
+                        self.unusable(parameters[first][0], as_told(call), *given, *args)
+                        args[first + 1:] = [None for _ in args[first + 1:]]
+                        self.unusable(parameters[first][0], as_told(call), *given, *args)
+
+    def test_generators_wait(self):
+        for call, args in ((patterncounts.patterns_of, (0, 1)), (patterncounts.patterns_of, (2, True))):
+            made = call(*args)
+            self.assertIsInstance(made, types.GeneratorType)
+            self.unusable("size" if args[0] == 0 else "balls", next, made)
+        self.assertIsInstance(books.words_of(TWINS), types.GeneratorType)
+
+    def test_kinds_of_results(self):
+        flags = ((books.has_word, (TWINS, (1, 0, 0, 0))), (books.is_part, (TWINS, TWINS)),
+                 (columns.spans, (TWINS, (0,), 1)), (swaps.can_swap, (THROWS, 0, 1)),
+                 (swaps.can_swap, (THROWS, 0, 2)), (ranktables.is_rank_table, (TABLE,)),
+                 (patterns.is_throws, (THROWS,)), (patterns.is_throws, ((),)))
+        for call, args in flags:
+            self.assertIs(type(call(*args)), bool, call.__name__)
+
+
+if __name__ == "__main__":
+    unittest.main()
