@@ -212,9 +212,12 @@ class Code(unittest.TestCase):
         made = {function.name for _, _, function in functions() if is_generator(function)}
         others = [function.name for _, _, function in functions() if not is_generator(function)]
         self.assertFalse(made & set(others) or made & METHODS)
+        called = [node for _, node in nodes(ast.YieldFrom)] + [node for _, node in nodes((ast.For, ast.comprehension))]
+        called = [node.value if isinstance(node, ast.YieldFrom) else node.iter for node in called]
+        called = [node.func for node in called if isinstance(node, ast.Call)]
         for name, node in nodes(ast.Name):
             if node.id in made and isinstance(node.ctx, ast.Load):
-                self.assertIn(f"yield from {node.id}(", read(name))
+                self.assertIn(node, called, name)
         for name, node in nodes(ast.Assign):
             if isinstance(node.value, ast.Call) and isinstance(node.value.func, ast.Name):
                 self.assertNotIn(node.value.func.id, ("zip", "enumerate", "reversed", "map", "set", "iter"), name)

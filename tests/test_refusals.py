@@ -6,8 +6,10 @@ import unittest
 
 from tests.helpers import (LINES, ODD, THROWS, TWINS, Held, integer, number, places_fit, prime_fits, same, size_fits,
                            stretch_fits, word_fits)
-from throwshelves import (bookpatterns, bookreadings, books, booktexts, columns, patterncounts, patternlines,
-                          patternpapers, patterns, ranktables, stretches, swaps)
+from throwshelves import (bookpatterns, bookreadings, books, booktexts, bridges, columns, countchecker, countpapers, counts,
+                          listings, papercheckers, patterncounts, patternlines, patternpapers, patterns, planchecker,
+                          ranktables, stretches, swaps)
+from throwshelves.errors import InvalidPaper
 
 TABLE = ((0, 1, 1, 2, 2), (0, 1, 2, 2, 2), (0, 1, 2, 2, 2), (0, 1, 2, 2, 2))
 
@@ -51,6 +53,17 @@ def is_text(thing):
     return type(thing) is str
 
 
+def is_two(thing):
+    """Whether it is a digit of 2."""
+    return number(thing) and thing < 2
+
+
+def is_plan(thing):
+    """Whether it is one of the few values here that are plans."""
+    return any(same(thing, plan) for plan in (PLAN, (("full", 0),)))
+
+
+PLAN = (("full", 0), ("rest", 1), ("bridge", 0))
 PRIME = ("prime", 2, prime_fits, (17, 4, -2, "2", [2]))
 SIZE = ("size", 4, size_fits, (0, -4, "4", (4,)))
 PLACE = ("place", 3, is_place, (4, -1, "3", (3,), [3]))
@@ -60,6 +73,8 @@ OTHER = ("other", (2, 4, ((1, 0, 0, 0),)), is_other,
          (LINES, (2, 3, ()), (3, 4, ()), [2, 4, ()], (2, 4, ((0, 0, 0, 0),)), (2, 4, ((True, 0, 0, 0),)), (2, 4)))
 WORD = ("word", (1, 1, 1, 0), is_row, ((1, 1, 1), (1, 1, 1, 2), [1, 1, 1, 0], (1, 1, 1, False), (1, 1, 1, 0, 0)))
 BALLS = ("balls", 2, number, (-1, "2", (2,)))
+RANK = ("rank", 2, lambda thing: number(thing) and thing <= 4, (5, -1, "2", (2,)))
+DEEDS = ("plan", PLAN, is_plan, (PLAN + (("bridge", 0),), list(PLAN), (("rest", True),), (("rest", 1),), (("bridge", 0),)))
 BOOK = ("book", TWINS)
 PATTERN = ("pattern", THROWS)
 
@@ -119,9 +134,25 @@ SPECS = (
     (stretches.free_stretches, PATTERN, ()),
     (stretches.full_stretches, PATTERN, ()),
     (patternpapers.pattern_paper, BOOK, ()),
+    (bridges.bridged, BOOK, (PLACE, ("digit", 1, is_two, (2, -1, "1", (1,))))),
+    (bridges.bridge_count, PATTERN, ()),
+    (bridges.bridge_plan, PATTERN, ()),
+    (bridges.plan_pattern, None, (DEEDS,)),
+    (bridges.plan_book, None, (DEEDS, PRIME, ("digits", (1,), lambda thing: same(thing, (1,)),
+                                              ((0,), (2,), (True,), [1], (), (1, 1))))),
+    (bridges.plan_books, None, (DEEDS, PRIME)),
+    (bridges.book_of, PATTERN, (PRIME,)),
+    (counts.count_polynomial, PATTERN, ()),
+    (counts.book_count, PATTERN, (PRIME,)),
+    (counts.least_count, PATTERN, (PRIME,)),
+    (counts.total_count, None, (SIZE, RANK, PRIME)),
+    (listings.all_books, None, (SIZE, RANK, PRIME)),
+    (listings.books_of, PATTERN, (PRIME,)),
+    (listings.counts_of, None, (SIZE, RANK, PRIME)),
+    (countpapers.count_paper, PATTERN, ()),
 )
 
-GENERATORS = (books.words_of, patterncounts.patterns_of)
+GENERATORS = (books.words_of, patterncounts.patterns_of, bridges.plan_books, listings.all_books, listings.books_of)
 
 
 def as_told(call):
@@ -182,6 +213,19 @@ class Refusals(Held, unittest.TestCase):
             self.assertIsInstance(made, types.GeneratorType)
             self.unusable("size" if args[0] == 0 else "balls", next, made)
         self.assertIsInstance(books.words_of(TWINS), types.GeneratorType)
+
+    def test_judged_things_stay(self):
+        """The functions that judge a thing take it by name too, and do not change it."""
+        handed = ((papercheckers.lets_pattern_of, {"book": TWINS}), (planchecker.lets_plan, {"pattern": (1, 1)}),
+                  (countchecker.lets_count, {"pattern": (1, 1)}))
+        for call, given in handed:
+            for thing in ODD + (["throws", [1], []], ("throws", [1], [None]), ([["rest", 0]], ["full"]),
+                                ["both", 0, ["one"]], ("turned", [0], ["one"])):
+                kept = copy.deepcopy(thing)
+                for args, named in (((), given | {"thing": thing}), ((*given.values(), thing), {})):
+                    with self.assertRaises(InvalidPaper):
+                        call(*args, **named)
+                self.assertTrue(same(thing, kept))
 
     def test_kinds_of_results(self):
         flags = ((books.has_word, (TWINS, (1, 0, 0, 0))), (books.is_part, (TWINS, TWINS)),

@@ -35,13 +35,16 @@ def is_digit(prime, thing):
     return is_prime(prime) and is_number(thing) and thing < prime
 
 
-def is_word(prime, size, thing):
-    """Whether the value is a word of the prime and the size."""
-    if not is_prime(prime) or not is_size(size):
-        return False
-    if not isinstance(thing, tuple) or len(thing) != size:
+def are_digits(prime, many, thing):
+    """Whether the value is a tuple of so many digits of the prime, perhaps of none."""
+    if not isinstance(thing, tuple) or len(thing) != many:
         return False
     return all([is_digit(prime, digit) for digit in thing])
+
+
+def is_word(prime, size, thing):
+    """Whether the value is a word of the prime and the size."""
+    return is_prime(prime) and is_size(size) and are_digits(prime, size, thing)
 
 
 def is_stretch(size, thing):

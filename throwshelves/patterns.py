@@ -1,7 +1,6 @@
 """Patterns: where the balls land, which are in the air, and which rounds they go."""
 
-from throwshelves.demands import demand
-from throwshelves.errors import InvalidPaper
+from throwshelves.demands import accept, demand
 from throwshelves.kinds import is_number, is_place
 
 
@@ -33,10 +32,7 @@ def is_throws(thing):
 
 def lets_pattern(thing):
     """The balls of any value that is a pattern; InvalidPaper for the first thing that bars it."""
-    fault = throws_fault(thing)
-    if fault is not None:
-        word, at = fault
-        raise InvalidPaper(word, at)
+    accept(throws_fault(thing))
     return balls_of(thing)
 
 

@@ -1,5 +1,6 @@
 """The checker of tables of ranks."""
 
+from throwshelves.demands import accept
 from throwshelves.errors import InvalidPaper
 from throwshelves.kinds import is_integer
 
@@ -55,8 +56,5 @@ def lets_table(thing):
     """The balls of any value that is a table that holds; InvalidPaper for the first thing that bars it."""
     if not is_table(thing):
         raise InvalidPaper("shape", -1)
-    fault = table_fault(thing)
-    if fault is not None:
-        word, at = fault
-        raise InvalidPaper(word, at)
+    accept(table_fault(thing))
     return thing[0][len(thing)]
