@@ -6,9 +6,10 @@ import unittest
 
 from tests.helpers import (LINES, ODD, THROWS, TWINS, Held, integer, number, places_fit, prime_fits, same, size_fits,
                            stretch_fits, word_fits)
-from throwshelves import (bookpatterns, bookreadings, books, booktexts, bridges, columns, countchecker, countpapers, counts,
-                          listings, papercheckers, patterncounts, patternlines, patternpapers, patterns, planchecker,
-                          ranktables, stretches, swaps)
+from throwshelves import (bookpatterns, bookreadings, books, booktexts, bridges, bursts, cappapers, caps, columns,
+                          countchecker, countpapers, counts, listings, losses, menders, papercheckers, patterncounts,
+                          patternlines, patternpapers, patterns, planchecker, ranktables, stretches, swaps, wishchecker,
+                          wishes, wishpapers)
 from throwshelves.errors import InvalidPaper
 
 TABLE = ((0, 1, 1, 2, 2), (0, 1, 2, 2, 2), (0, 1, 2, 2, 2), (0, 1, 2, 2, 2))
@@ -63,7 +64,19 @@ def is_plan(thing):
     return any(same(thing, plan) for plan in (PLAN, (("full", 0),)))
 
 
+def are_bounds(thing):
+    """Whether it is one of the few values here that are bounds."""
+    return same(thing, ((0, 1),)) or same(thing, WISH)
+
+
+def are_caps(thing):
+    """Whether it is one of the few values here that are caps of four places."""
+    return same(thing, ()) or same(thing, CAPS)
+
+
 PLAN = (("full", 0), ("rest", 1), ("bridge", 0))
+WISH = ((0, 4), (1, 2), (2, 2), (0, 3))
+CAPS = (((0, 2), 1), ((3, 4), 3))
 PRIME = ("prime", 2, prime_fits, (17, 4, -2, "2", [2]))
 SIZE = ("size", 4, size_fits, (0, -4, "4", (4,)))
 PLACE = ("place", 3, is_place, (4, -1, "3", (3,), [3]))
@@ -75,6 +88,9 @@ WORD = ("word", (1, 1, 1, 0), is_row, ((1, 1, 1), (1, 1, 1, 2), [1, 1, 1, 0], (1
 BALLS = ("balls", 2, number, (-1, "2", (2,)))
 RANK = ("rank", 2, lambda thing: number(thing) and thing <= 4, (5, -1, "2", (2,)))
 DEEDS = ("plan", PLAN, is_plan, (PLAN + (("bridge", 0),), list(PLAN), (("rest", True),), (("rest", 1),), (("bridge", 0),)))
+BOUNDS = ("bounds", WISH, are_bounds, (((0, 4), (1, 2), (2, 2), (3, 0)), list(WISH), ((0, True),), ((0, 2),), ((0,),)))
+LET = ("balls", 2, lambda thing: number(thing) and thing <= 4, (5, -1, "2"))
+SOME_CAPS = ("caps", CAPS, are_caps, ((((0, 5), 1),), (((0, 2), -1),), (((0, 2), True),), list(CAPS), (((4, 0), 1),)))
 BOOK = ("book", TWINS)
 PATTERN = ("pattern", THROWS)
 
@@ -150,6 +166,27 @@ SPECS = (
     (listings.books_of, PATTERN, (PRIME,)),
     (listings.counts_of, None, (SIZE, RANK, PRIME)),
     (countpapers.count_paper, PATTERN, ()),
+    (bursts.mends_burst, PATTERN, (STRETCH,)),
+    (bursts.most_burst, PATTERN, ()),
+    (bursts.most_window, PATTERN, ()),
+    (bursts.open_rank, PATTERN, (STRETCH,)),
+    (losses.filled, BOOK, (("digits", (1, None, None, 1), lambda thing: same(thing, (1, None, None, 1)),
+                            ((1, None, 1, None), (1, None, None, 2), (True, None, None, 1), (1, 1, 1), [1, 1, 1, 0])),)),
+    (losses.open_words, BOOK, (STRETCH,)),
+    (losses.holds_any, BOOK, (STRETCH,)),
+    (menders.next_ones, PATTERN, (PLACE,)),
+    (menders.ones_before, PATTERN, (PLACE,)),
+    (menders.chain_of, PATTERN, (PLACE,)),
+    (wishes.balls_let, None, (BOUNDS,)),
+    (wishes.is_within, PATTERN, (BOUNDS,)),
+    (wishes.pattern_within, None, (BOUNDS, LET)),
+    (wishes.book_within, None, (BOUNDS, LET, PRIME)),
+    (wishpapers.wish_paper, None, (BOUNDS, LET)),
+    (caps.most_rank, None, (SIZE, SOME_CAPS)),
+    (caps.keeps_caps, PATTERN, (SOME_CAPS,)),
+    (caps.lot_under, None, (SIZE, SOME_CAPS, RANK)),
+    (caps.book_under, None, (SIZE, SOME_CAPS, RANK, PRIME)),
+    (cappapers.cap_paper, None, (SIZE, SOME_CAPS, RANK)),
 )
 
 GENERATORS = (books.words_of, patterncounts.patterns_of, bridges.plan_books, listings.all_books, listings.books_of)
@@ -217,7 +254,8 @@ class Refusals(Held, unittest.TestCase):
     def test_judged_things_stay(self):
         """The functions that judge a thing take it by name too, and do not change it."""
         handed = ((papercheckers.lets_pattern_of, {"book": TWINS}), (planchecker.lets_plan, {"pattern": (1, 1)}),
-                  (countchecker.lets_count, {"pattern": (1, 1)}))
+                  (countchecker.lets_count, {"pattern": (1, 1)}), (wishchecker.lets_wish, {"bounds": WISH, "balls": 2}),
+                  (cappapers.lets_caps, {"size": 4, "caps": CAPS, "rank": 2}))
         for call, given in handed:
             for thing in ODD + (["throws", [1], []], ("throws", [1], [None]), ([["rest", 0]], ["full"]),
                                 ["both", 0, ["one"]], ("turned", [0], ["one"])):
@@ -231,7 +269,10 @@ class Refusals(Held, unittest.TestCase):
         flags = ((books.has_word, (TWINS, (1, 0, 0, 0))), (books.is_part, (TWINS, TWINS)),
                  (columns.spans, (TWINS, (0,), 1)), (swaps.can_swap, (THROWS, 0, 1)),
                  (swaps.can_swap, (THROWS, 0, 2)), (ranktables.is_rank_table, (TABLE,)),
-                 (patterns.is_throws, (THROWS,)), (patterns.is_throws, ((),)))
+                 (patterns.is_throws, (THROWS,)), (patterns.is_throws, ((),)), (bursts.mends_burst, (THROWS, (0, 2))),
+                 (losses.holds_any, (TWINS, (0, 2))), (wishes.is_within, (THROWS, WISH)),
+                 (wishchecker.lets_wish, (WISH, 2, ("throws", (2, 2, 2, 2)))), (caps.keeps_caps, (THROWS, CAPS)),
+                 (cappapers.lets_caps, (4, CAPS, 0, ("lot", ()))))
         for call, args in flags:
             self.assertIs(type(call(*args)), bool, call.__name__)
 
