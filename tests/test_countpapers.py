@@ -147,6 +147,16 @@ class Papers(Held, unittest.TestCase):
         for pattern in some_patterns(60, (6, 7, 8), each=3):
             self.equal(lets_count(pattern, count_paper(pattern)), count_polynomial(pattern))
 
+    def test_turned_at_first(self):
+        # Of up to eight places these patterns, as they are turned, are all that are neither parted nor made less.
+        for pattern in ((2, 4) * 3, (2, 4) * 4, (2, 6) * 4, (4, 6) * 4, (4, 2, 5, 3, 6, 4, 2, 6), (3, 4, 5, 3, 6, 4, 2, 5)):
+            for k in range(len(pattern)):
+                turned = pattern[k:] + pattern[:k]
+                paper = count_paper(turned)
+                self.assertEqual(paper[0], "turned")
+                self.equal(lets_count(turned, paper), count_polynomial(pattern))
+                self.equal(self.told(turned, paper), list(count_polynomial(pattern)))
+
 
 class Refused(Held, unittest.TestCase):
     def test_form(self):

@@ -63,6 +63,13 @@ class Polynomials(Held, unittest.TestCase):
                 self.equal(book_count(pattern, prime), counts[pattern])
                 self.equal(value(count_polynomial(pattern), prime), counts[pattern])
 
+    def test_against_all_books_of_six_places(self):
+        counts = Counter(pattern_of(book) for book in books_of_rank(2, 6, 3))
+        for pattern in patterns_by_orders(6):
+            if sum(pattern) == 18:
+                self.equal(book_count(pattern, 2), counts[pattern])
+        self.assertEqual(sum(counts.values()), 1395)
+
     def test_kinds(self):
         for pattern in [p for size in (1, 2, 3, 4) for p in patterns_by_orders(size)] + greater_patterns():
             polynomial = count_polynomial(pattern)

@@ -69,7 +69,8 @@ class Refused(Held, unittest.TestCase):
                             ("throws", list(THROWS), SUMS), ("throws", (1, 2, 2), SUMS), ("throws", (0, 0, 0), SUMS[:3]),
                             ("throws", (2, 1, 3, 2), SUMS), ("throws", (True, 2, 2, 3), SUMS),
                             ("throws", (1, 2, 2, 7), SUMS), ("throws", THROWS, SUMS[:3]), ("throws", THROWS, list(SUMS)),
-                            ("throws", THROWS, SUMS + (None,)), ("throws", THROWS, None), ("throws", (), ()), "throws"):
+                            ("throws", THROWS, SUMS + (None,)), ("throws", THROWS, None), ("throws", (), ()), "throws",
+                            ("throws", (2, 2, 2), SUMS), ("throws", (2, 2, 2, 2, 2), SUMS), ("throws", (0,), SUMS)):
             self.invalid("shape", -1, lets_pattern_of, TWINS, thing)
 
     def test_balls(self):
