@@ -4,6 +4,7 @@ Nothing here uses the program but its errors, so that a fault of the program is 
 """
 
 import random
+from functools import cache
 from itertools import combinations, permutations, product
 
 from throwshelves import errors
@@ -75,6 +76,41 @@ def places_fit(size, thing):
     if type(thing) is not tuple or not all(number(place) and place < size for place in thing):
         return False
     return list(thing) == sorted(set(thing))
+
+
+def place_fits(size, thing):
+    return number(thing) and thing < size
+
+
+def pattern_fits(thing):
+    """Whether it is a pattern, by an order of all places that it comes to."""
+    if type(thing) is not tuple or thing == () or not all(number(one) and one <= len(thing) for one in thing):
+        return False
+    return len({(i + throw) % len(thing) for i, throw in enumerate(thing)}) == len(thing)
+
+
+def book_fits(thing):
+    """Whether it is a book: its rows are those that they would be settled to."""
+    if type(thing) is not tuple or len(thing) != 3:
+        return False
+    prime, size, rows = thing
+    if not prime_fits(prime) or not size_fits(size) or type(rows) is not tuple:
+        return False
+    if not all(word_fits(prime, size, row) and any(row) for row in rows):
+        return False
+    leads = [next(at for at in range(size) if row[at] != 0) for row in rows]
+    if leads != sorted(set(leads)):
+        return False
+    return all(row[at] == (1 if leads[k] == at else 0) for k, row in enumerate(rows) for at in leads)
+
+
+def factors_fit(prime, size, thing):
+    return word_fits(prime, size, thing) and 0 not in thing
+
+
+def landing(pattern, i):
+    """Where the ball of any integer lands, as an integer."""
+    return i + pattern[i % len(pattern)]
 
 
 def books_of_rank(prime, size, rank):
@@ -165,6 +201,53 @@ def some_patterns(seed, sizes, each=6):
             patterns.append(tuple(choices))
         patterns += [(0,) * size, (size,) * size, (chance.randint(0, size),) * size]
     return patterns
+
+
+@cache
+def matches(size, balls):
+    """All patterns of the size with so many balls, ascending."""
+    return tuple(p for p in patterns_by_orders(size) if sum(p) == size * balls)
+
+
+def all_matches(sizes):
+    """For each size and each number of balls all patterns."""
+    return [matches(size, balls) for size in sizes for balls in range(size + 1)]
+
+
+@cache
+def swaps_down(pattern):
+    """The lowering swaps of the pattern: each pair with the pattern that it makes, by the landings."""
+    size, found = len(pattern), {}
+    for i in range(size):
+        for j in range(i + 1, i + size):
+            throws = list(pattern)
+            throws[i], throws[j % size] = landing(pattern, j) - i, landing(pattern, i) - j
+            if landing(pattern, i) < landing(pattern, j) and all(0 <= throw <= size for throw in throws):
+                found[(i, j)] = tuple(throws)
+    return found
+
+
+@cache
+def all_below(pattern):
+    """All patterns to which lowering swaps lead, one after another, or none."""
+    found, new = {pattern}, [pattern]
+    while new:
+        new = [low for one in new for low in swaps_down(one).values() if low not in found]
+        found |= set(new)
+    return found
+
+
+@cache
+def falls_of(pattern):
+    """The depth: the pairs of integers of which the first ball lands behind the second one."""
+    size = len(pattern)
+    return sum(landing(pattern, i) > landing(pattern, j) for i in range(size) for j in range(i + 1, i + 3 * size))
+
+
+@cache
+def close_swaps(pattern):
+    """The lowering swaps by which the depth is one more: each pair with the pattern that it makes."""
+    return {pair: low for pair, low in swaps_down(pattern).items() if falls_of(low) == falls_of(pattern) + 1}
 
 
 def rank_by_throws(pattern, start, length):

@@ -40,7 +40,7 @@ class Examples(unittest.TestCase):
                     name, fields = fields_of(error)
                     told = f"raises {name}({', '.join(f'{field}={value!r}' for field, value in fields.items())})"
                 self.assertEqual(told, wanted)
-        self.assertEqual(shown, 74)
+        self.assertEqual(shown, 107)
 
 
 if __name__ == "__main__":

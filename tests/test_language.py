@@ -11,7 +11,7 @@ LIBRARY = {"heapq", "math", "itertools"}
 BUILTINS = set("""len range enumerate zip min max sum abs sorted reversed int str bool bytes list tuple dict set isinstance
     ord repr any all divmod iter next staticmethod classmethod property ValueError TypeError""".split())
 STATEMENTS = (ast.Assign, ast.AugAssign, ast.AnnAssign, ast.If, ast.While, ast.For, ast.Return, ast.Break, ast.Continue,
-              ast.Pass, ast.Raise, ast.Assert, ast.Delete, ast.Expr, ast.FunctionDef, ast.ClassDef, ast.ImportFrom)
+              ast.Pass, ast.Raise, ast.Assert, ast.Delete, ast.Expr, ast.Try, ast.FunctionDef, ast.ClassDef, ast.ImportFrom)
 METHODS = set("""append clear copy count endswith extend find get index insert isalnum isalpha isdigit islower isspace
     isupper items join keys ljust lower lstrip partition pop remove replace reverse rfind rjust rpartition rsplit rstrip
     setdefault split splitlines startswith strip update upper values zfill bit_length""".split())
@@ -68,6 +68,37 @@ def functions():
                 for inner in node.body:
                     if isinstance(inner, ast.FunctionDef):
                         yield name, node, inner
+
+
+def called_in(function):
+    """The names of all functions and methods that a function calls."""
+    names = set()
+    for node in ast.walk(function):
+        if isinstance(node, ast.Call):
+            names.add(node.func.attr if isinstance(node.func, ast.Attribute) else node.func.id)
+    return names
+
+
+def is_bound_to_change_nothing(kind, function):
+    """Whether it is an operator, a property or the like of a class, which change nothing."""
+    if kind is None:
+        return False
+    if any(isinstance(one, ast.Name) and one.id == "property" for one in function.decorator_list):
+        return True
+    return function.name.startswith("__") and function.name not in ("__init__", "__call__")
+
+
+def unchanging():
+    """The operators, properties and the like, and all functions and methods that they reach, told by their names."""
+    every = [(name, kind, function) for name, kind, function in functions()]
+    reached = [one for one in every if is_bound_to_change_nothing(one[1], one[2])]
+    names = {name for one in reached for name in called_in(one[2])}
+    more = set(names)
+    while more:
+        more = {name for _, _, function in every if function.name in more for name in called_in(function)} - names
+        names |= more
+    properties = {function.name for _, kind, function in every if is_bound_to_change_nothing(kind, function)}
+    return [one for one in every if one in reached or one[2].name in names | properties]
 
 
 def is_generator(function):
@@ -187,6 +218,14 @@ class Code(unittest.TestCase):
                     bound.append(node.targets[0].id)
             self.assertEqual(len(bound), len(set(bound)), name)
 
+    def test_l19_caught_errors(self):
+        own = {one.name for one in TREES["errors.py"].body if isinstance(one, ast.ClassDef)}
+        for name, node in nodes(ast.Try):
+            self.assertEqual(node.finalbody, [])
+            for handler in node.handlers:
+                self.assertIn(handler.type.id, own, name)
+                self.assertIsNone(handler.name)
+
     def test_l19_errors(self):
         for name, node in nodes(ast.Raise):
             self.assertIsInstance(node.exc, ast.Call, name)
@@ -241,7 +280,22 @@ class Classes(unittest.TestCase):
                 self.assertIn("__iter__", {one.name for one in kind.body if isinstance(one, ast.FunctionDef)})
             for node in ast.walk(function):
                 if isinstance(node, ast.Attribute) and isinstance(node.ctx, ast.Store):
-                    self.assertEqual((function.name, ast.unparse(node.value)), ("__init__", "self"), name)
+                    self.assertEqual(ast.unparse(node.value), "self", name)
+                    self.assertTrue(function.name == "__init__" or kind.name in ("LiveRing", "Desk"), name)
+
+    def test_l5_operators_store_nothing(self):
+        found = unchanging()
+        self.assertGreater(len(found), 150)
+        for name, _, function in found:
+            if function.name == "__init__":
+                continue
+            for node in ast.walk(function):
+                self.assertFalse(isinstance(node, ast.Attribute) and isinstance(node.ctx, ast.Store), (name, function.name))
+
+    def test_l5_class_values(self):
+        values = [(kind.name, ast.unparse(node)) for _, kind in nodes(ast.ClassDef) for node in kind.body
+                  if not isinstance(node, (ast.FunctionDef, ast.Expr))]
+        self.assertEqual(values, [("LiveRing", "MOST = 40")])
 
     def test_l18_methods_once(self):
         for name, kind in nodes(ast.ClassDef):

@@ -4,12 +4,13 @@ import copy
 import types
 import unittest
 
-from tests.helpers import (LINES, ODD, THROWS, TWINS, Held, integer, number, places_fit, prime_fits, same, size_fits,
-                           stretch_fits, word_fits)
-from throwshelves import (bookpatterns, bookreadings, books, booktexts, bridges, bursts, cappapers, caps, columns,
-                          countchecker, countpapers, counts, listings, losses, menders, papercheckers, patterncounts,
-                          patternlines, patternpapers, patterns, planchecker, ranktables, stretches, swaps, wishchecker,
-                          wishes, wishpapers)
+from tests.helpers import (LINES, ODD, THROWS, TWINS, Held, book_fits, factors_fit, integer, number, pattern_fits,
+                           places_fit, prime_fits, same, size_fits, stretch_fits, word_fits)
+from throwshelves import (bookpatterns, bookreadings, books, bookshelves, booktexts, bridges, bursts, cappapers, caps,
+                          columns, countchecker, countpapers, counts, duals, eventreadings, eventtexts, intervals, joins,
+                          likebooks, likechecker, listings, liveevents, losses, menders, order, orderpapers,
+                          papercheckers, patterncounts, patternlines, patternpapers, patterns, planchecker, ranktables,
+                          replaying, shelves, stretches, swaps, symmetries, turns, wishchecker, wishes, wishpapers)
 from throwshelves.errors import InvalidPaper
 
 TABLE = ((0, 1, 1, 2, 2), (0, 1, 2, 2, 2), (0, 1, 2, 2, 2), (0, 1, 2, 2, 2))
@@ -91,8 +92,20 @@ DEEDS = ("plan", PLAN, is_plan, (PLAN + (("bridge", 0),), list(PLAN), (("rest", 
 BOUNDS = ("bounds", WISH, are_bounds, (((0, 4), (1, 2), (2, 2), (3, 0)), list(WISH), ((0, True),), ((0, 2),), ((0,),)))
 LET = ("balls", 2, lambda thing: number(thing) and thing <= 4, (5, -1, "2"))
 SOME_CAPS = ("caps", CAPS, are_caps, ((((0, 5), 1),), (((0, 2), -1),), (((0, 2), True),), list(CAPS), (((4, 0), 1),)))
+K = ("k", -10 ** 59, integer, ("1", (1,)))
+GAP = ("place", 4, lambda thing: number(thing) and thing <= 4, (5, -1, "0"))
+FACTORS = ("digits", (1, 1, 1, 1), lambda thing: factors_fit(2, 4, thing),
+           ((1, 1, 1, 0), (1, 1, 1), (1, 1, 1, 2), (1, 1, 1, True), [1, 1, 1, 1]))
+THAT = ("other", (2, 2, 2, 2), lambda thing: pattern_fits(thing) and len(thing) == 4 and sum(thing) == 8,
+        ((1, 1, 1, 1), (2, 1, 3, 2), (2, 2), [2, 2, 2, 2], (4, 4, False, 0), (2,) * 5))
+ANY_PATTERN = ("other", (1, 1), pattern_fits, ((1, 0), [1, 1], (3, 0), (True, 1), TWINS))
+EVENT = ("event", ("turn", -1), lambda thing: same(thing, ("turn", -1)), (("turn", True), ["turn", 1], ("mend", -1), ("turn",)))
+LOG = ("log", (("ring", TWINS), ("turn", -1)), lambda thing: False,
+       ([("ring", TWINS)], ("ring", TWINS), (("ring", TWINS), ("turn", True)), (("ring", (2, 4, [])),)))
 BOOK = ("book", TWINS)
 PATTERN = ("pattern", THROWS)
+ONE_BOOK = ("one", TWINS)
+ONE = ("one", THROWS)
 
 # The function, its parameter that is handed in as such, and all others: name, a value that stands, what stands,
 # and values ahead of those in ODD that do not stand.
@@ -187,6 +200,49 @@ SPECS = (
     (caps.lot_under, None, (SIZE, SOME_CAPS, RANK)),
     (caps.book_under, None, (SIZE, SOME_CAPS, RANK, PRIME)),
     (cappapers.cap_paper, None, (SIZE, SOME_CAPS, RANK)),
+    (duals.checks_pattern, PATTERN, ()),
+    (turns.turned_pattern, PATTERN, (K,)),
+    (turns.turned_book, BOOK, (K,)),
+    (turns.mirrored_pattern, PATTERN, ()),
+    (turns.mirrored_book, BOOK, ()),
+    (turns.scaled_book, BOOK, (FACTORS,)),
+    (joins.joined_patterns, ONE, (ANY_PATTERN,)),
+    (joins.joined_books, ONE_BOOK, (("other", (2, 1, ((1,),)), lambda thing: book_fits(thing) and thing[0] == 2,
+                                     (LINES, (3, 4, ()), [2, 1, ()], (2, 1, ((True,),)), THROWS)),)),
+    (joins.split_at, PATTERN, (("place", 2, lambda thing: integer(thing) and 1 <= thing < 4, (0, 4, -1, "1")),)),
+    (shelves.with_rest, PATTERN, (GAP,)),
+    (shelves.with_full, PATTERN, (GAP,)),
+    (shelves.doubled, PATTERN, (PLACE,)),
+    (shelves.without, PATTERN, (("place", 0) + PLACE[2:],)),
+    (bookshelves.book_with_rest, BOOK, (GAP,)),
+    (bookshelves.book_with_full, BOOK, (GAP,)),
+    (bookshelves.book_doubled, BOOK, (PLACE,)),
+    (bookshelves.book_without, BOOK, (("place", 0) + PLACE[2:],)),
+    (symmetries.turns_of, PATTERN, ()),
+    (symmetries.kin_of, PATTERN, ()),
+    (symmetries.least_kin, PATTERN, ()),
+    (symmetries.kin_step, ONE, (ANY_PATTERN,)),
+    (likebooks.scaling_of, ONE_BOOK, (OTHER,)),
+    (likebooks.like_paper, ONE_BOOK, (OTHER,)),
+    (order.lies_below, ONE, (THAT,)),
+    (order.barring_stretch, ONE, (THAT,)),
+    (order.chain_to, ONE, (THAT,)),
+    (order.covers_of, PATTERN, ()),
+    (order.covered_by, PATTERN, ()),
+    (order.lowest_of, None, (SIZE, LET)),
+    (intervals.between, ONE, (THAT,)),
+    (intervals.greatest_below, ONE, (THAT,)),
+    (intervals.least_above, ONE, (THAT,)),
+    (intervals.how_many_below, PATTERN, ()),
+    (intervals.how_many_above, PATTERN, ()),
+    (intervals.chain_count, ONE, (THAT,)),
+    (orderpapers.order_paper, ONE, (THAT,)),
+    (eventtexts.event_line, None, (EVENT,)),
+    (eventtexts.log_lines, None, (LOG,)),
+    (eventreadings.read_event, None, (("text", "turn -1", is_text, (2, ("turn 1",))),)),
+    (eventreadings.read_log, None, (("lines", ["book 2 4", "turn -1"], lambda thing: same(thing, []),
+                                     ("book 2 4", ("book 2 4",), ["book 2 4\n"], ["book 2 4", None])),)),
+    (replaying.replayed, None, (LOG,)),
 )
 
 GENERATORS = (books.words_of, patterncounts.patterns_of, bridges.plan_books, listings.all_books, listings.books_of)
@@ -215,6 +271,9 @@ class Refusals(Held, unittest.TestCase):
                 pairs = ([] if handed is None else [handed]) + [(name, value) for name, value, _, _ in parameters]
                 told = as_told(call)
                 once = told(*[value for _, value in pairs])
+                if call is replaying.replayed:
+                    self.assertTrue(told(**dict(pairs)) == once)
+                    continue
                 self.equal(told(**dict(pairs)), once)
                 self.equal(told(**dict(reversed(pairs))), once)
                 if len(pairs) > 1:
@@ -255,10 +314,13 @@ class Refusals(Held, unittest.TestCase):
         """The functions that judge a thing take it by name too, and do not change it."""
         handed = ((papercheckers.lets_pattern_of, {"book": TWINS}), (planchecker.lets_plan, {"pattern": (1, 1)}),
                   (countchecker.lets_count, {"pattern": (1, 1)}), (wishchecker.lets_wish, {"bounds": WISH, "balls": 2}),
-                  (cappapers.lets_caps, {"size": 4, "caps": CAPS, "rank": 2}))
+                  (cappapers.lets_caps, {"size": 4, "caps": CAPS, "rank": 2}),
+                  (likechecker.lets_like, {"one": TWINS, "other": TWINS}),
+                  (orderpapers.lets_below, {"one": THROWS, "other": (2, 2, 2, 2)}))
         for call, given in handed:
             for thing in ODD + (["throws", [1], []], ("throws", [1], [None]), ([["rest", 0]], ["full"]),
-                                ["both", 0, ["one"]], ("turned", [0], ["one"])):
+                                ["both", 0, ["one"]], ("turned", [0], ["one"]), ("like", "turned", 0, [1]),
+                                ["swaps", []], ("swaps", [(0, 1)]), ("stretch", [0, 1])):
                 kept = copy.deepcopy(thing)
                 for args, named in (((), given | {"thing": thing}), ((*given.values(), thing), {})):
                     with self.assertRaises(InvalidPaper):
@@ -272,7 +334,10 @@ class Refusals(Held, unittest.TestCase):
                  (patterns.is_throws, (THROWS,)), (patterns.is_throws, ((),)), (bursts.mends_burst, (THROWS, (0, 2))),
                  (losses.holds_any, (TWINS, (0, 2))), (wishes.is_within, (THROWS, WISH)),
                  (wishchecker.lets_wish, (WISH, 2, ("throws", (2, 2, 2, 2)))), (caps.keeps_caps, (THROWS, CAPS)),
-                 (cappapers.lets_caps, (4, CAPS, 0, ("lot", ()))))
+                 (cappapers.lets_caps, (4, CAPS, 0, ("lot", ()))), (order.lies_below, (THROWS, THROWS)),
+                 (order.lies_below, ((2, 2, 2, 2), THROWS)), (orderpapers.lets_below, (THROWS, THROWS, ("swaps", ()))),
+                 (orderpapers.lets_below, ((2, 2, 2, 2), THROWS, ("stretch", (0, 2)))), (liveevents.is_event, (("turn", 1),)),
+                 (liveevents.is_event, (None,)), (liveevents.is_log, ((("ring", TWINS),),)), (liveevents.is_log, ((),)))
         for call, args in flags:
             self.assertIs(type(call(*args)), bool, call.__name__)
 

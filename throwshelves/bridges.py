@@ -1,10 +1,11 @@
 """Books of patterns, made shelf by shelf, with bridges from shelf to shelf."""
 
 from throwshelves.books import counted_on
+from throwshelves.columnputs import with_nought, with_unit
 from throwshelves.columns import columns_of, from_columns
 from throwshelves.deeds import bridges_in, is_plan, last_deed, throws_ahead, throws_by
 from throwshelves.demands import demand
-from throwshelves.kinds import are_digits, is_digit, is_place, is_prime
+from throwshelves.kinds import are_factors, is_digit, is_place, is_prime
 from throwshelves.patterns import balls_of
 from throwshelves.swaps import depth_of
 
@@ -47,40 +48,27 @@ def plan_pattern(plan):
     return throws_by(plan)
 
 
-def are_bridge_digits(plan, prime, thing):
-    """Whether the value is a tuple of a digit other than 0 for each bridge of the plan."""
-    return are_digits(prime, bridges_in(plan), thing) and 0 not in thing
-
-
 def plan_book(plan, prime, digits):
     """The book that the plan makes, each bridge with its digit."""
     demand(is_plan(plan), "plan")
     demand(is_prime(prime), "prime")
-    demand(are_bridge_digits(plan, prime, digits), "digits")
+    demand(are_factors(prime, bridges_in(plan), digits), "digits")
     return book_made(plan, prime, digits)
 
 
 def book_made(plan, prime, digits):
     """The book that what is certainly a plan makes, each bridge with its digit."""
     columns = []
-    rank = 0
     done = 0
     for word, place in plan:
         if word == "bridge":
             columns = with_bridge(prime, columns, place, digits[done])
             done = done + 1
         elif word == "rest":
-            columns = columns[:place] + [nought_column(rank)] + columns[place:]
+            columns = with_nought(columns, place)
         else:
-            longer = [column + (0,) for column in columns]
-            columns = longer[:place] + [nought_column(rank) + (1,)] + longer[place:]
-            rank = rank + 1
+            columns = with_unit(columns, place)
     return from_columns(prime, tuple(columns))
-
-
-def nought_column(rank):
-    """The column of so many noughts."""
-    return tuple([0 for _ in range(rank)])
 
 
 def plan_books(plan, prime):

@@ -42,6 +42,11 @@ def are_digits(prime, many, thing):
     return all([is_digit(prime, digit) for digit in thing])
 
 
+def are_factors(prime, many, thing):
+    """Whether the value is a tuple of so many digits of the prime other than 0, perhaps of none."""
+    return are_digits(prime, many, thing) and 0 not in thing
+
+
 def is_word(prime, size, thing):
     """Whether the value is a word of the prime and the size."""
     return is_prime(prime) and is_size(size) and are_digits(prime, size, thing)

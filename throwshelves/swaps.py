@@ -49,6 +49,12 @@ def is_falling(pattern, i, j):
     return landing_of(pattern, i) > landing_of(pattern, j)
 
 
+def is_close(pattern, i, j):
+    """Whether no integer between both lands between where they do, so that their swap changes the depth by just 1."""
+    low, high = sorted([landing_of(pattern, i), landing_of(pattern, j)])
+    return not any([low < landing_of(pattern, m) < high for m in range(i + 1, j)])
+
+
 def lowering_swaps(pattern):
     """The set of all pairs at which there is a lowering swap."""
     rising = [(i, j) for i, j in pairs_of(pattern) if not is_falling(pattern, i, j)]
