@@ -78,7 +78,10 @@ class Order(Held, unittest.TestCase):
     def test_all_pairs_of_five_places(self):
         for found in all_matches((5,)):
             for other in found:
-                self.assertEqual({one for one in found if lies_below(one, other)}, all_below(other))
+                below = all_below(other)
+                for one in found:
+                    self.assertIs(lies_below(one, other), one in below)
+                    self.equal(barring_stretch(one, other), first_greater(one, other))
 
     def test_the_stretch_is_the_shortest(self):
         for one, other in pairs_of_matches():

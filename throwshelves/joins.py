@@ -42,7 +42,5 @@ def split_at(pattern, place):
     demand(is_integer(place) and 1 <= place < size, "place")
     one = part_split(pattern[:place], size - place)
     other = part_split(pattern[place:], place)
-    if not is_throws(one) or not is_throws(other):
-        return None
-    # A ball that flew from one part into the other one, and stopped there, is told by other throws.
+    # Where a ball flies from one part into the other one, and lands there, these come to other throws.
     return (one, other) if pattern_joined(one, other) == pattern else None
