@@ -82,6 +82,8 @@ class Order(Held, unittest.TestCase):
                 for one in found:
                     self.assertIs(lies_below(one, other), one in below)
                     self.equal(barring_stretch(one, other), first_greater(one, other))
+                    if one in below:
+                        self.chained(one, other)
 
     def test_the_stretch_is_the_shortest(self):
         for one, other in pairs_of_matches():
